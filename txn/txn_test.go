@@ -149,7 +149,6 @@ func TestOneBehindTheOther(t *testing.T) { // P17.1, P17.2, P17.4
 		alone(t, m, func(a *tasks.Act) {
 			for i := range 40 {
 				x := some(r, j, 10)
-				was := is.copy()
 				results := is.whole(x)
 				o := Run(a, Seats(j)[0], x, nil)
 				errno := api.OK
@@ -166,9 +165,8 @@ func TestOneBehindTheOther(t *testing.T) { // P17.1, P17.2, P17.4
 					t.Fatalf("seed %d: %+v: %s, want %s", seed, x, told(o), told(expect))
 				}
 				for k, w := range o.Writes {
-					_, was := was[w.Table][string(w.Key)]
-					if now := is[w.Table][string(w.Key)]; !row.Same(now, w.Row) || k > 0 && fmt.Sprint(o.Writes[k-1].Table, string(o.Writes[k-1].Key)) >= fmt.Sprint(w.Table, string(w.Key)) {
-						t.Fatalf("seed %d: %+v wrote %+v (%v)", seed, x, o.Writes, was)
+					if now, _ := is.Get(w.Table, w.Key); x.Abort || !row.Same(now, w.Row) || k > 0 && fmt.Sprint(o.Writes[k-1].Table, string(o.Writes[k-1].Key)) >= fmt.Sprint(w.Table, string(w.Key)) {
+						t.Fatalf("seed %d: %+v wrote %+v", seed, x, o.Writes)
 					}
 				}
 				switch {

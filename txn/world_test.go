@@ -1,9 +1,7 @@
 package txn
 
 import (
-	"bytes"
 	"fmt"
-	"maps"
 	"slices"
 	"testing"
 
@@ -12,8 +10,8 @@ import (
 	"garner/cells"
 	"garner/disk"
 	"garner/epoch"
+	"garner/model"
 	"garner/record"
-	"garner/row"
 	"garner/tasks"
 	"garner/tid"
 	"garner/tree"
@@ -87,114 +85,46 @@ func told(o api.Outcome) string {
 	return s
 }
 
-// tables are maps from keys to rows: what transactions mean, in the plainest way.
-type tables []map[string]api.Row
-
-func (m tables) copy() tables {
-	var c tables
-	for _, t := range m {
-		c = append(c, maps.Clone(t))
-	}
-	return c
-}
-
-func (m tables) do(o api.Op) (r api.Result) {
-	t, k := m[o.Table], string(o.Key)
-	_, there := t[k]
-	switch {
-	case !there && (o.Kind == api.OpGet || o.Kind == api.OpDelete):
-		r.Errno = api.ErrNone
-	case there && o.Kind == api.OpInsert:
-		r.Errno = api.ErrThere
-	case o.Kind == api.OpGet:
-		r.Rows = []api.Pair{{Key: o.Key, Row: t[k]}}
-	case o.Kind == api.OpPut, o.Kind == api.OpInsert:
-		t[k] = o.Row
-	case o.Kind == api.OpDelete:
-		delete(t, k)
-	case o.Kind == api.OpScan:
-		for _, k := range slices.Sorted(maps.Keys(t)) {
-			if k >= string(o.Key) && (len(o.To) == 0 || k < string(o.To)) && len(r.Rows) < o.Most {
-				r.Rows = append(r.Rows, api.Pair{Key: []byte(k), Row: t[k]})
-			}
-		}
-	default:
-		var l []api.Pair
-		for k, x := range t {
-			if len(x) > o.Index+1 && bytes.Compare(x[o.Index+1], o.Key) >= 0 && (len(o.To) == 0 || bytes.Compare(x[o.Index+1], o.To) < 0) {
-				l = append(l, api.Pair{Key: []byte(k), Row: x})
-			}
-		}
-		slices.SortFunc(l, func(a, b api.Pair) int {
-			if c := bytes.Compare(a.Row[o.Index+1], b.Row[o.Index+1]); c != 0 {
-				return c
-			}
-			return bytes.Compare(a.Key, b.Key)
-		})
-		r.Rows = l[:min(len(l), o.Most)]
-	}
-	return r
-}
-
-// whole does a transaction: its results, and whether its end is another state.
-func (m tables) whole(t api.Txn) []api.Result {
-	var l []api.Result
-	on := m
-	if t.Abort {
-		on = m.copy()
-	}
-	for _, o := range t.Ops {
-		l = append(l, on.do(o))
-	}
-	return l
-}
+// tables are what transactions mean.
+type tables struct{ *model.Model }
 
 func newTables(j api.Job) tables {
-	var m tables
-	for range j.Tables {
-		m = append(m, map[string]api.Row{})
-	}
-	return m
+	m, _ := model.New(j)
+	return tables{m}
+}
+
+// whole does a transaction.
+func (m tables) whole(t api.Txn) []api.Result {
+	l, _ := m.Do(t)
+	return l
 }
 
 // stands holds what stands in the cells against tables: rows, entries, and that all trees are sound.
 func (m tables) stands(t *testing.T, mach *tasks.Machine, j api.Job) {
 	t.Helper()
 	alone(t, mach, func(a *tasks.Act) {
-		want := map[int]map[string]api.Row{}
-		for n, what := range catalog.All(j) {
-			if want[n] == nil {
-				want[n] = map[string]api.Row{}
-			}
-			if what.Index >= 0 {
-				continue
-			}
-			for k, r := range m[what.Table] {
-				want[n][k] = r
-				l, _ := catalog.Entries(j, what.Table, []byte(k), r)
-				for _, e := range l {
-					if want[e.Tree] == nil {
-						want[e.Tree] = map[string]api.Row{}
-					}
-					want[e.Tree][string(e.Key)] = nil
-				}
-			}
-		}
 		for n, what := range catalog.All(j) {
 			c, _ := Cell(j, what.Table, what.Index)
-			got := map[string]api.Row{}
+			var got, want []api.Pair
 			tree.Scan(a, c, j.Width, nil, func(api.Seen) {}, func(k []byte, rec uint64) bool {
 				word, r := record.Read(a, rec)
 				if tid.Locked(word) || tid.Dead(word) {
 					t.Fatalf("%q has the word %d", k, word)
 				}
 				if !tid.Absent(word) {
-					got[string(k)] = r
+					got = append(got, api.Pair{Key: k, Row: r})
 				}
 				return true
 			})
-			if !maps.EqualFunc(got, want[n], row.Same) {
-				t.Fatalf("the tree %d has %q, want %q", n, got, want[n])
+			if what.Index < 0 {
+				want = slices.Collect(m.Table(what.Table))
+			} else {
+				for p := range m.Index(what.Table, what.Index) {
+					want = append(want, api.Pair{Key: p.Key})
+				}
+			}
+			if !model.SamePairs(got, want) {
+				t.Fatalf("the tree %d has %q, want %q", n, got, want)
 			}
 			if _, ok := tree.Check(a, c, j.Width); !ok {
 				t.Fatalf("the tree %d is not sound", n)
