@@ -367,6 +367,41 @@ func laid(t *testing.T, room, rows int, epoch int64) *disk.Disk {
 	return d
 }
 
+// TestAboveAll: a new generation begins above all that was ever seen, and keeps no cells that nobody finds.
+func TestAboveAll(t *testing.T) {
+	d, _ := disk.New(small.Disk)
+	m, _ := log.PutManifest(api.Manifest{Generation: 3, Floor: 5, Logs: []api.LogPart{{Name: "l", To: 5}}})
+	d.Append(api.ManifestName, m)
+	for i, x := range []struct {
+		epoch int64
+		key   string
+	}{{5, "abcdefghij"}, {4, "abcdefghkl"}, {9, "lost"}} {
+		b, _ := log.PutTxn(api.Logged{TID: api.TID{Epoch: x.epoch, Seq: int64(i + 1)}, Writes: []api.Write{{Key: []byte(x.key), Row: api.Row{[]byte("x")}}}})
+		d.Append("l", b)
+	}
+	s, e := Open(small, [][]api.Txn{{of(put("a", "x"))}}, d)
+	if e != api.OK || s.At().Generation != 3 {
+		t.Fatalf("Open: %v, %+v", e, s.At())
+	}
+	opened(t, s)
+	if at := s.At(); at.Generation != 4 || at.Epoch != 10 || at.Durable != 9 {
+		t.Errorf("At is %+v", at)
+	}
+	pieces := 0 // a border, a layer's, and of each of two keys a record and a row
+	for range s.machine.Arena().All() {
+		pieces++
+	}
+	if pieces != 6 {
+		t.Errorf("there are %d pieces", pieces)
+	}
+	for !s.Ended() {
+		pick(t, s, 0)
+	}
+	if short(s) != "crash; recovered 5 [[{abcdefghij [x]} {abcdefghkl [x]}]]; commit 0 10.1 0[]; " {
+		t.Errorf("it told %s", short(s))
+	}
+}
+
 func TestStuck(t *testing.T) {
 	j := small
 	j.Cells = 1024
