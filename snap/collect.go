@@ -69,9 +69,11 @@ func (c *collector) tree(n int) {
 
 // long: has a record elder versions that nobody needs? Just these are locked: a record that is locked in vain would let others abort.
 func (c *collector) long(rec uint64) bool {
-	for at := rec; at != 0; at = c.a.Load(at + elderAt) {
-		if tid.Epoch(c.a.Load(at)) <= c.needed {
-			return c.a.Load(at+elderAt) != 0
+	at := rec
+	for range api.MaxCells / api.RecordCells { // it can't have more
+		over := tid.Epoch(c.a.Load(at)) <= c.needed
+		if at = c.a.Load(at + elderAt); over || at == 0 {
+			return over && at != 0
 		}
 	}
 	return false

@@ -23,12 +23,12 @@ func Check(a *tasks.Act, cell uint64, width int) (int, bool) {
 	if !mayWidth(width) {
 		return 0, false
 	}
-	c := &check{walk: walk{a, width}, sound: true}
+	c := &check{walk: newWalk(a, width), sound: true}
 	root := a.Load(cell)
 	c.layer(root, nil)
 	// A border that is locked or marked is told already: to look for keys then might not end.
 	for i := 0; c.sound && i < len(c.keys); i++ {
-		rec, _ := c.get(root, c.keys[i])
+		rec, _ := newWalk(a, width).get(root, c.keys[i])
 		c.must(rec == c.records[i])
 	}
 	return len(c.keys), c.sound

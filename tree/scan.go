@@ -26,18 +26,18 @@ anew:
 		places := node.Places(s.a, n, s.width)
 		next := s.a.Load(n + nextAt)
 		switch {
-		case next != 0 && !s.below(from, next):
+		case next != 0 && !s.below(from, next) && s.on(next) != 0:
 			n = next
 			continue anew
 		case version.Same(v, node.Version(s.a, n)):
-			return spot{node: n, version: v}.seen(), places, next
+			return spot{node: n, version: v}.seen(), places, s.on(next)
 		}
 	}
 }
 
 // layer goes over a layer's keys, from what is left of the first one on; ahead is what all of them begin with. It tells whether to go on.
 func (s scan) layer(root uint64, ahead, from []byte) bool {
-	if root == 0 {
+	if root == 0 || len(ahead) >= api.MaxEntry { // no key is so long
 		return true
 	}
 	first, _ := slice.Of(from, 0)

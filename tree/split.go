@@ -68,6 +68,7 @@ func (w *writer) climb(n uint64) path {
 			break
 		}
 		if n = w.lockAt(parent); n == 0 { // nobody leads to this border, either
+			w.open(up)
 			return path{}
 		}
 		if w.a.Load(n+countAt) < uint64(w.width) {
@@ -82,7 +83,7 @@ func (w *writer) climb(n uint64) path {
 // lockAt locks the node that a cell tells as a parent; who holds that node may have told another one meanwhile.
 func (w *writer) lockAt(cell uint64) uint64 {
 	for {
-		n := w.a.Load(cell)
+		n := w.on(w.a.Load(cell))
 		if n == 0 {
 			return 0
 		}
@@ -204,6 +205,9 @@ func (w *writer) tell(l *layer, root uint64) {
 		return
 	}
 	s := w.lock(l.above.root, l.key)
+	if !s.there {
+		return
+	}
 	node.Mark(w.a, s.node, api.NodeInserting)
 	w.a.Store(w.field(s, valuesFields), root)
 	w.above = append(w.above, api.Change{Node: s.node, Was: s.version, Is: node.Unlock(w.a, s.node)})

@@ -25,10 +25,10 @@ type writer struct {
 	above []api.Change // borders above, in which another root is told
 }
 
-// lock locks the border where a key lies, and reads it.
+// lock locks the border where a key lies, and reads it; where there is no tree, nothing.
 func (w walk) lock(root uint64, k api.Slice) spot {
 	n := w.leaf(root, k)
-	for {
+	for n != 0 {
 		for next := w.right(n, k); next != 0; next = w.right(n, k) {
 			n = next
 		}
@@ -40,15 +40,16 @@ func (w walk) lock(root uint64, k api.Slice) spot {
 		}
 		node.Unlock(w.a, n)
 	}
+	return spot{}
 }
 
 // remove takes what is left of a key out of a layer.
 func (w walk) remove(root uint64, rest []byte, rec uint64) ([]uint64, bool) {
-	if root == 0 {
-		return nil, false
-	}
 	k, _ := slice.Of(rest, 0)
 	s := w.lock(root, k)
+	if s.node == 0 {
+		return nil, false
+	}
 	var lost []uint64
 	there := s.there && s.place.Value == rec
 	if s.there && k.Len == goesOn {
@@ -75,6 +76,8 @@ func (w *writer) insert(l *layer, rest []byte, rec uint64) api.Errno {
 	k, _ := slice.Of(rest, 0)
 	s := w.lock(l.root, k)
 	switch {
+	case s.node == 0:
+		return api.ErrArg
 	case !s.there:
 		return w.put(l, s, api.Place{Slice: k, Value: rec}, rest)
 	case k.Len < goesOn:

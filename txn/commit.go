@@ -11,7 +11,7 @@ import (
 	"garner/tree"
 )
 
-// looks is how often one looks at a record of the read set that another one has locked: who collects holds records for some few steps, and changes nothing that was read. (To wait longer would be to wait in a ring.)
+// looks is how often one looks anew at a record: at one of the read set that another one has locked (who collects holds records for some few steps, and changes nothing that was read; to wait longer would be to wait in a ring), and at a key whose record is dead.
 const looks = 32
 
 // commit locks, takes a number, asks whether all is so yet, and installs.

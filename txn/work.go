@@ -108,7 +108,7 @@ func there(word uint64) bool { return !tid.Absent(word) && !tid.Dead(word) }
 
 // look finds a key in the index; a record that is dead is in it no more.
 func (w *work) look(k key) held {
-	for {
+	for range looks {
 		rec, seen := tree.Get(w.a, cell(k.tree), w.width(), []byte(k.bytes))
 		if rec == 0 {
 			return held{seen: seen}
@@ -118,11 +118,13 @@ func (w *work) look(k key) held {
 			return held{record: rec, word: word, row: r}
 		}
 	}
+	fail(api.ErrConflict)
+	return held{}
 }
 
 // place finds a key, or puts a new record there.
 func (w *work) place(k key) held {
-	for {
+	for range looks {
 		if h := w.look(k); h.record != 0 {
 			return h
 		}
@@ -130,6 +132,8 @@ func (w *work) place(k key) held {
 			return h
 		}
 	}
+	fail(api.ErrConflict)
+	return held{}
 }
 
 // insert puts a new record into the index, unless somebody else was ahead.
