@@ -103,9 +103,89 @@ func TestWorkers(t *testing.T) { // P19.1
 	for _, x := range []struct {
 		workers, loggers, logger int
 		want                     []int
-	}{{4, 1, 0, []int{0, 1, 2, 3}}, {4, 2, 0, []int{0, 2}}, {3, 2, 1, []int{1}}, {2, 2, 1, []int{1}}, {3, 2, 2, nil}, {3, 2, -1, nil}, {3, 1, 1, nil}, {1, 2, 0, nil}, {3, 2, math.MaxInt, nil}, {5, 2, 0, nil}} {
+	}{{4, 1, 0, []int{0, 1, 2, 3}}, {4, 2, 0, []int{0, 2}}, {3, 2, 1, []int{1}}, {2, 2, 1, []int{1}}, {3, 2, 2, nil}, {3, 2, -1, nil}, {3, 1, 1, nil}, {3, 2, math.MaxInt, nil}, {3, 2, math.MinInt, nil},
+		// More loggers than workers: the last one has none.
+		{1, 2, 0, []int{0}}, {1, 2, 1, nil}, {1, 2, 2, nil},
+		{0, 1, 0, nil}, {-1, 1, 0, nil}, {2, 0, 0, nil}, {2, 0, -1, nil}, {2, -1, 0, nil}, {math.MinInt, math.MinInt, 0, nil},
+		// Beyond the bounds: who has no cell is none.
+		{5, 2, 0, []int{0, 2}}, {math.MaxInt, 1, 0, []int{0, 1, 2, 3}}, {4, 3, 0, []int{0, 3}}, {4, 3, 2, nil}, {4, math.MaxInt, 1, []int{1}}, {4, math.MaxInt, 3, nil}} {
 		if l := Workers(job(x.workers, x.loggers), x.logger); !slices.Equal(l, x.want) {
 			t.Errorf("Workers of %+v are %v", x, l)
+		}
+		// What else the job says is of no weight.
+		if l := Workers(api.Job{Workers: x.workers, Loggers: x.loggers}, x.logger); !slices.Equal(l, x.want) {
+			t.Errorf("Workers of %+v, of a job that says nothing else, are %v", x, l)
+		}
+	}
+}
+
+// TestNoWorkers: a logger that has no workers says up to where it is done, or nothing ever were durable.
+func TestNoWorkers(t *testing.T) { // P19.1, P19.2
+	j := api.Job{Workers: 1, Loggers: 2}
+	m := machine(t, 1024)
+	alone(t, m, func(a *tasks.Act) {
+		epoch.Start(a, 5)
+		epoch.Enter(a, 0)
+		epoch.Advance(a, 1)
+		a.Push(0, []byte("x"))
+		a.Push(1, []byte("y"))
+		if b := Round(a, j, 1, "log.1.1", nil); b != nil {
+			t.Errorf("kept is %q", b)
+		}
+		Durable(a, j, 1)
+	})
+	cell(t, m, api.CellLogger+1, 5)
+	if n := len(m.Disk().Names()) + m.Disk().Used(); n != 0 {
+		t.Errorf("the disk has files %v", m.Disk().Names())
+	}
+	if n := actions(m, func(a *tasks.Act) { Round(a, j, 1, "log.1.1", nil) }); n != 2 { // the epoch of all, its cell
+		t.Errorf("a round of no workers has %d actions", n)
+	}
+	alone(t, m, func(a *tasks.Act) {
+		if b := Round(a, j, 0, "log.1.0", nil); b != nil {
+			t.Errorf("kept is %q", b)
+		}
+		if b := Round(a, j, 1, "log.1.1", []byte("kept")); b != nil {
+			t.Errorf("kept is %q", b)
+		}
+		Durable(a, j, 1)
+	})
+	file(t, m, "log.1.0", "x", 1)
+	file(t, m, "log.1.1", "kept", 4)
+	durable(t, m, api.Durable{Generation: 1, Epoch: 4})
+	cell(t, m, api.CellDurable, 4)
+	if len(m.Box(1)) != 1 {
+		t.Error("the box of one that is no worker was emptied")
+	}
+}
+
+// TestWhateverJob: no job leads a logger to a cell that is not its own, or makes durable what stands in no log.
+func TestWhateverJob(t *testing.T) { // P19.1, P19.2, P0.5
+	odd := []int{math.MinInt, -1, 0, 1, 3, 5, math.MaxInt}
+	for _, workers := range odd {
+		for _, loggers := range odd {
+			m := machine(t, 1024)
+			alone(t, m, func(a *tasks.Act) {
+				epoch.Start(a, 7)
+				a.Push(2, []byte("x"))
+				for l := range api.CellRoot - api.CellLogger {
+					j := api.Job{Workers: workers, Loggers: loggers}
+					b := Round(a, j, int(l), "log.1.0", []byte("k"))
+					if is := int(l) < min(loggers, api.MaxLoggers); is == (string(b) == "k") {
+						t.Errorf("%d workers, %d loggers: the logger %d keeps %q", workers, loggers, l, b)
+					}
+				}
+			})
+			for c := uint64(api.CellDurable); c < api.CellRoot; c++ {
+				cell(t, m, c, 0)
+			}
+			m.Arena().Store(api.CellLogger+1, 6)
+			alone(t, m, func(a *tasks.Act) { Durable(a, api.Job{Workers: workers, Loggers: loggers}, 1) })
+			want := uint64(0)
+			if loggers == 1 {
+				want = 6
+			}
+			cell(t, m, api.CellDurable, want)
 		}
 	}
 }
@@ -226,7 +306,7 @@ func TestDurable(t *testing.T) { // P19.2
 func TestWhateverSteps(t *testing.T) { // P19.3, P0.2
 	for seed := range int64(200) {
 		r := rand.New(rand.NewSource(seed))
-		j := job(3, 1+r.Intn(2))
+		j := job(1+r.Intn(3), 1+r.Intn(2))
 		room := 1 << 16
 		if seed%5 == 0 {
 			room = 1024
